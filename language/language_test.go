@@ -1,0 +1,195 @@
+// Package language holds no program: its tests hold the layers' code against the language that it keeps to, and against the ways that it leans on.
+package language
+
+import (
+	"bytes"
+	"go/ast"
+	"go/format"
+	"go/parser"
+	"go/token"
+	"go/types"
+	"os"
+	"path/filepath"
+	"slices"
+	"strconv"
+	"strings"
+	"testing"
+)
+
+const mostLines = 60
+
+// layers are the packages of the program, each below those behind it.
+func layers() []string {
+	return strings.Fields("api pack sums tuple disk page meta node graft free trunk climb growth commit store proof span clash audit rings ledger client pins diff follow rows query wire serve hub script play")
+}
+
+// library are the packages that may be imported beside the program's own.
+func library() []string {
+	return strings.Fields("bytes cmp container/heap errors iter maps math math/bits slices sort strconv strings sync sync/atomic unicode unicode/utf8")
+}
+
+// each calls do with every file of a layer that is no test.
+func each(t *testing.T, layer string, do func(name string, text []byte, set *token.FileSet, file *ast.File)) {
+	t.Helper()
+	names, _ := filepath.Glob(filepath.Join("..", layer, "*.go"))
+	if len(names) == 0 {
+		t.Errorf("%s has no files", layer)
+	}
+	for _, name := range names {
+		if strings.HasSuffix(name, "_test.go") {
+			continue
+		}
+		text, err := os.ReadFile(name)
+		if err != nil {
+			t.Fatal(err)
+		}
+		set := token.NewFileSet()
+		file, err := parser.ParseFile(set, name, text, parser.ParseComments)
+		if err != nil {
+			t.Fatal(err)
+		}
+		do(name, text, set, file)
+	}
+}
+
+func TestImports(t *testing.T) {
+	all := layers()
+	for i, layer := range all {
+		each(t, layer, func(name string, _ []byte, _ *token.FileSet, file *ast.File) {
+			for _, x := range file.Imports {
+				path, _ := strconv.Unquote(x.Path.Value)
+				own, ok := strings.CutPrefix(path, "heartwood/")
+				if ok && !slices.Contains(all[:i], own) {
+					t.Errorf("%s imports %s, which is not below it", name, path)
+				}
+				if ok && (layer == "pack" || layer == "sums") && own != "api" {
+					t.Errorf("%s imports %s, and stands on api alone", name, path)
+				}
+				if !ok && !slices.Contains(library(), path) {
+					t.Errorf("%s imports %s", name, path)
+				}
+			}
+		})
+	}
+}
+
+func TestLayout(t *testing.T) {
+	for _, layer := range layers() {
+		each(t, layer, func(name string, text []byte, set *token.FileSet, file *ast.File) {
+			if laid, err := format.Source(text); err != nil || !bytes.Equal(laid, text) {
+				t.Errorf("%s is not laid out as gofmt does it", name)
+			}
+			for _, group := range file.Comments {
+				for _, c := range group.List {
+					if strings.HasPrefix(c.Text, "//go:") || strings.HasPrefix(c.Text, "// +build") {
+						t.Errorf("%s: %s", name, c.Text)
+					}
+				}
+			}
+			for _, d := range file.Decls {
+				f, ok := d.(*ast.FuncDecl)
+				if ok && set.Position(f.End()).Line-set.Position(f.Pos()).Line >= mostLines {
+					t.Errorf("%s: %s is longer than %d lines", name, f.Name.Name, mostLines)
+				}
+				if ok && f.Recv == nil && f.Name.Name == "init" {
+					t.Errorf("%s has an init", name)
+				}
+			}
+		})
+	}
+}
+
+// checked answers the types of what a layer that stands on api alone is made of.
+func checked(t *testing.T, layer string) ([]*ast.File, *types.Info) {
+	t.Helper()
+	set := token.NewFileSet()
+	var files []*ast.File
+	each(t, layer, func(name string, text []byte, _ *token.FileSet, _ *ast.File) {
+		file, err := parser.ParseFile(set, name, text, 0)
+		if err != nil {
+			t.Fatal(err)
+		}
+		files = append(files, file)
+	})
+	info := &types.Info{Types: map[ast.Expr]types.TypeAndValue{}}
+	// What is imported is not there, so its types are not known: those that the ways ask for are the layer's own.
+	config := types.Config{Error: func(error) {}}
+	config.Check("heartwood/"+layer, set, files, info)
+	return files, info
+}
+
+// under answers the type of an expression, through its name.
+func under(info *types.Info, e ast.Expr) types.Type {
+	if x := info.Types[e].Type; x != nil {
+		return x.Underlying()
+	}
+	return nil
+}
+
+// ways answers which of the language's ways that stage 1 leans on a layer has.
+func ways(t *testing.T, layer string) map[string]int {
+	files, info := checked(t, layer)
+	got := map[string]int{}
+	for _, file := range files {
+		ast.Inspect(file, func(n ast.Node) bool {
+			switch x := n.(type) {
+			case *ast.FuncDecl:
+				ofFunction(info, x, got)
+			case *ast.CallExpr:
+				_, array := under(info, x.Fun).(*types.Array)
+				if array && info.Types[x.Fun].IsType() && len(x.Args) == 1 {
+					if _, slice := under(info, x.Args[0]).(*types.Slice); slice {
+						got["slice to array"]++
+					}
+				}
+			case *ast.RangeStmt:
+				if p, ok := under(info, x.X).(*types.Pointer); ok {
+					if _, array := p.Elem().Underlying().(*types.Array); array {
+						got["range over a pointer to an array"]++
+					}
+				}
+			case *ast.AssignStmt:
+				if x.Tok != token.ASSIGN && x.Tok != token.DEFINE {
+					got["operator assignment"]++
+				}
+			}
+			return true
+		})
+	}
+	return got
+}
+
+// ofFunction counts the ways that a function's own face shows.
+func ofFunction(info *types.Info, f *ast.FuncDecl, got map[string]int) {
+	if f.Type.TypeParams != nil {
+		got["generic function"]++
+	}
+	for _, p := range f.Type.Params.List {
+		switch p.Type.(type) {
+		case *ast.Ellipsis:
+			got["variadic"]++
+		case *ast.FuncType:
+			got["function that is handed in"]++
+		}
+	}
+	if r := f.Type.Results; r != nil && len(r.List) == 1 && len(f.Type.Params.List) == 0 {
+		if _, array := under(info, r.List[0].Type).(*types.Array); array {
+			got["array that a function makes"]++
+		}
+	}
+}
+
+func TestWays(t *testing.T) {
+	wanted := map[string][]string{
+		"pack": {"generic function", "function that is handed in", "variadic"},
+		"sums": {"variadic", "slice to array", "range over a pointer to an array", "operator assignment", "array that a function makes"},
+	}
+	for layer, words := range wanted {
+		got := ways(t, layer)
+		for _, word := range words {
+			if got[word] == 0 {
+				t.Errorf("%s has no %s", layer, word)
+			}
+		}
+	}
+}
