@@ -52,6 +52,11 @@ func each(t *testing.T, layer string, do func(name string, text []byte, set *tok
 	}
 }
 
+// standsOn tells which layers one may call beside api, where its chapter names them.
+func standsOn() map[string][]string {
+	return map[string][]string{"pack": {}, "sums": {}, "tuple": {"pack"}}
+}
+
 func TestImports(t *testing.T) {
 	all := layers()
 	for i, layer := range all {
@@ -62,8 +67,8 @@ func TestImports(t *testing.T) {
 				if ok && !slices.Contains(all[:i], own) {
 					t.Errorf("%s imports %s, which is not below it", name, path)
 				}
-				if ok && (layer == "pack" || layer == "sums") && own != "api" {
-					t.Errorf("%s imports %s, and stands on api alone", name, path)
+				if below, told := standsOn()[layer]; ok && told && own != "api" && !slices.Contains(below, own) {
+					t.Errorf("%s imports %s, and does not stand on it", name, path)
 				}
 				if !ok && !slices.Contains(library(), path) {
 					t.Errorf("%s imports %s", name, path)
@@ -126,7 +131,7 @@ func under(info *types.Info, e ast.Expr) types.Type {
 	return nil
 }
 
-// ways answers which of the language's ways that stage 1 leans on a layer has.
+// ways answers which of the language's ways that the built layers lean on a layer has.
 func ways(t *testing.T, layer string) map[string]int {
 	files, info := checked(t, layer)
 	got := map[string]int{}
@@ -147,6 +152,10 @@ func ways(t *testing.T, layer string) map[string]int {
 					if _, array := p.Elem().Underlying().(*types.Array); array {
 						got["range over a pointer to an array"]++
 					}
+				}
+			case *ast.SelectorExpr:
+				if of, ok := x.X.(*ast.Ident); ok {
+					got[of.Name+"."+x.Sel.Name]++
 				}
 			case *ast.AssignStmt:
 				if x.Tok != token.ASSIGN && x.Tok != token.DEFINE {
@@ -181,8 +190,9 @@ func ofFunction(info *types.Info, f *ast.FuncDecl, got map[string]int) {
 
 func TestWays(t *testing.T) {
 	wanted := map[string][]string{
-		"pack": {"generic function", "function that is handed in", "variadic"},
-		"sums": {"variadic", "slice to array", "range over a pointer to an array", "operator assignment", "array that a function makes"},
+		"pack":  {"generic function", "function that is handed in", "variadic"},
+		"sums":  {"variadic", "slice to array", "range over a pointer to an array", "operator assignment", "array that a function makes"},
+		"tuple": {"variadic", "slice to array", "operator assignment", "math.Float64bits", "math.IsNaN", "math.Signbit"},
 	}
 	for layer, words := range wanted {
 		got := ways(t, layer)
