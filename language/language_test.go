@@ -54,7 +54,7 @@ func each(t *testing.T, layer string, do func(name string, text []byte, set *tok
 
 // standsOn tells which layers one may call beside api, where its chapter names them.
 func standsOn() map[string][]string {
-	return map[string][]string{"pack": {}, "sums": {}, "tuple": {"pack"}}
+	return map[string][]string{"pack": {}, "sums": {}, "tuple": {"pack"}, "disk": {}}
 }
 
 func TestImports(t *testing.T) {
@@ -116,7 +116,7 @@ func checked(t *testing.T, layer string) ([]*ast.File, *types.Info) {
 		}
 		files = append(files, file)
 	})
-	info := &types.Info{Types: map[ast.Expr]types.TypeAndValue{}}
+	info := &types.Info{Types: map[ast.Expr]types.TypeAndValue{}, Selections: map[*ast.SelectorExpr]*types.Selection{}}
 	// What is imported is not there, so its types are not known: those that the ways ask for are the layer's own.
 	config := types.Config{Error: func(error) {}}
 	config.Check("heartwood/"+layer, set, files, info)
@@ -140,7 +140,14 @@ func ways(t *testing.T, layer string) map[string]int {
 			switch x := n.(type) {
 			case *ast.FuncDecl:
 				ofFunction(info, x, got)
+			case *ast.FuncLit:
+				got["closure"]++
+			case *ast.StructType:
+				ofStruct(info, x, got)
 			case *ast.CallExpr:
+				if f, ok := x.Fun.(*ast.Ident); ok && info.Types[f].IsBuiltin() {
+					got[f.Name]++
+				}
 				_, array := under(info, x.Fun).(*types.Array)
 				if array && info.Types[x.Fun].IsType() && len(x.Args) == 1 {
 					if _, slice := under(info, x.Args[0]).(*types.Slice); slice {
@@ -154,6 +161,9 @@ func ways(t *testing.T, layer string) map[string]int {
 					}
 				}
 			case *ast.SelectorExpr:
+				if s := info.Selections[x]; s != nil && s.Kind() == types.MethodVal && len(s.Index()) > 1 {
+					got["promoted method"]++
+				}
 				if of, ok := x.X.(*ast.Ident); ok {
 					got[of.Name+"."+x.Sel.Name]++
 				}
@@ -188,11 +198,21 @@ func ofFunction(info *types.Info, f *ast.FuncDecl, got map[string]int) {
 	}
 }
 
+// ofStruct counts the struct types of the layer's own that a struct embeds.
+func ofStruct(info *types.Info, s *ast.StructType, got map[string]int) {
+	for _, f := range s.Fields.List {
+		if _, own := under(info, f.Type).(*types.Struct); own && len(f.Names) == 0 {
+			got["embedding"]++
+		}
+	}
+}
+
 func TestWays(t *testing.T) {
 	wanted := map[string][]string{
 		"pack":  {"generic function", "function that is handed in", "variadic"},
 		"sums":  {"variadic", "slice to array", "range over a pointer to an array", "operator assignment", "array that a function makes"},
 		"tuple": {"variadic", "slice to array", "operator assignment", "math.Float64bits", "math.IsNaN", "math.Signbit"},
+		"disk":  {"variadic", "embedding", "promoted method", "copy", "closure"},
 	}
 	for layer, words := range wanted {
 		got := ways(t, layer)
