@@ -54,7 +54,7 @@ func each(t *testing.T, layer string, do func(name string, text []byte, set *tok
 
 // standsOn tells which layers one may call beside api, where its chapter names them.
 func standsOn() map[string][]string {
-	return map[string][]string{"pack": {}, "sums": {}, "tuple": {"pack"}, "disk": {}}
+	return map[string][]string{"pack": {}, "sums": {}, "tuple": {"pack"}, "disk": {}, "page": {"pack", "sums"}}
 }
 
 func TestImports(t *testing.T) {
@@ -144,6 +144,8 @@ func ways(t *testing.T, layer string) map[string]int {
 				got["closure"]++
 			case *ast.StructType:
 				ofStruct(info, x, got)
+			case *ast.MapType:
+				got["map"]++
 			case *ast.CallExpr:
 				if f, ok := x.Fun.(*ast.Ident); ok && info.Types[f].IsBuiltin() {
 					got[f.Name]++
@@ -161,8 +163,8 @@ func ways(t *testing.T, layer string) map[string]int {
 					}
 				}
 			case *ast.SelectorExpr:
-				if s := info.Selections[x]; s != nil && s.Kind() == types.MethodVal && len(s.Index()) > 1 {
-					got["promoted method"]++
+				if s := info.Selections[x]; s != nil && s.Kind() == types.MethodVal {
+					ofMethod(s, got)
 				}
 				if of, ok := x.X.(*ast.Ident); ok {
 					got[of.Name+"."+x.Sel.Name]++
@@ -198,12 +200,29 @@ func ofFunction(info *types.Info, f *ast.FuncDecl, got map[string]int) {
 	}
 }
 
-// ofStruct counts the struct types of the layer's own that a struct embeds.
+// ofStruct counts the types of the layer's own that a struct embeds.
 func ofStruct(info *types.Info, s *ast.StructType, got map[string]int) {
 	for _, f := range s.Fields.List {
-		if _, own := under(info, f.Type).(*types.Struct); own && len(f.Names) == 0 {
-			got["embedding"]++
+		if len(f.Names) > 0 {
+			continue
 		}
+		switch under(info, f.Type).(type) {
+		case *types.Struct:
+			got["embedding"]++
+		case *types.Interface:
+			got["embedding of an interface"]++
+		}
+	}
+}
+
+// ofMethod counts the ways by which a method comes to be called.
+func ofMethod(s *types.Selection, got map[string]int) {
+	if len(s.Index()) > 1 {
+		got["promoted method"]++
+	}
+	f, ok := s.Obj().(*types.Func)
+	if ok && types.IsInterface(f.Signature().Recv().Type()) {
+		got["call through an interface"]++
 	}
 }
 
@@ -213,6 +232,7 @@ func TestWays(t *testing.T) {
 		"sums":  {"variadic", "slice to array", "range over a pointer to an array", "operator assignment", "array that a function makes"},
 		"tuple": {"variadic", "slice to array", "operator assignment", "math.Float64bits", "math.IsNaN", "math.Signbit"},
 		"disk":  {"variadic", "embedding", "promoted method", "copy", "closure"},
+		"page":  {"variadic", "embedding of an interface", "promoted method", "call through an interface", "map"},
 	}
 	for layer, words := range wanted {
 		got := ways(t, layer)
