@@ -3,6 +3,7 @@ package language
 
 import (
 	"bytes"
+	"errors"
 	"go/ast"
 	"go/format"
 	"go/parser"
@@ -54,7 +55,7 @@ func each(t *testing.T, layer string, do func(name string, text []byte, set *tok
 
 // standsOn tells which layers one may call beside api, where its chapter names them.
 func standsOn() map[string][]string {
-	return map[string][]string{"pack": {}, "sums": {}, "tuple": {"pack"}, "disk": {}, "page": {"pack", "sums"}}
+	return map[string][]string{"pack": {}, "sums": {}, "tuple": {"pack"}, "disk": {}, "page": {"pack", "sums"}, "meta": {"pack", "sums"}}
 }
 
 func TestImports(t *testing.T) {
@@ -104,23 +105,47 @@ func TestLayout(t *testing.T) {
 	}
 }
 
-// checked answers the types of what a layer that stands on api alone is made of.
-func checked(t *testing.T, layer string) ([]*ast.File, *types.Info) {
-	t.Helper()
-	set := token.NewFileSet()
+// loaded are the layers whose types are known by now: an importer of the project's own packages alone.
+type loaded struct {
+	t    *testing.T
+	set  *token.FileSet
+	info *types.Info
+	had  map[string]*types.Package
+}
+
+// Import answers a layer's package. What is of the library is not there: the ways ask for types of the project's own alone.
+func (l *loaded) Import(path string) (*types.Package, error) {
+	layer, own := strings.CutPrefix(path, "heartwood/")
+	if !own {
+		return nil, errors.New("not of the project: " + path)
+	}
+	if l.had[layer] == nil {
+		l.check(layer)
+	}
+	return l.had[layer], nil
+}
+
+// check has a layer's types told, and answers its files.
+func (l *loaded) check(layer string) []*ast.File {
 	var files []*ast.File
-	each(t, layer, func(name string, text []byte, _ *token.FileSet, _ *ast.File) {
-		file, err := parser.ParseFile(set, name, text, 0)
+	each(l.t, layer, func(name string, text []byte, _ *token.FileSet, _ *ast.File) {
+		file, err := parser.ParseFile(l.set, name, text, 0)
 		if err != nil {
-			t.Fatal(err)
+			l.t.Fatal(err)
 		}
 		files = append(files, file)
 	})
-	info := &types.Info{Types: map[ast.Expr]types.TypeAndValue{}, Selections: map[*ast.SelectorExpr]*types.Selection{}}
-	// What is imported is not there, so its types are not known: those that the ways ask for are the layer's own.
-	config := types.Config{Error: func(error) {}}
-	config.Check("heartwood/"+layer, set, files, info)
-	return files, info
+	config := types.Config{Importer: l, Error: func(error) {}}
+	l.had[layer], _ = config.Check("heartwood/"+layer, l.set, files, l.info)
+	return files
+}
+
+// checked answers a layer's files, and the types of what it is made of.
+func checked(t *testing.T, layer string) ([]*ast.File, *types.Info) {
+	t.Helper()
+	info := &types.Info{Types: map[ast.Expr]types.TypeAndValue{}, Instances: map[*ast.Ident]types.Instance{}, Selections: map[*ast.SelectorExpr]*types.Selection{}}
+	l := &loaded{t, token.NewFileSet(), info, map[string]*types.Package{}}
+	return l.check(layer), info
 }
 
 // under answers the type of an expression, through its name.
@@ -168,6 +193,14 @@ func ways(t *testing.T, layer string) map[string]int {
 				}
 				if of, ok := x.X.(*ast.Ident); ok {
 					got[of.Name+"."+x.Sel.Name]++
+				}
+				if _, generic := info.Instances[x.Sel]; generic {
+					got["generic function of another layer"]++
+				}
+			case *ast.BinaryExpr:
+				_, of := under(info, x.X).(*types.Struct)
+				if of && (x.Op == token.EQL || x.Op == token.NEQ) {
+					got["structs compared"]++
 				}
 			case *ast.AssignStmt:
 				if x.Tok != token.ASSIGN && x.Tok != token.DEFINE {
@@ -233,6 +266,7 @@ func TestWays(t *testing.T) {
 		"tuple": {"variadic", "slice to array", "operator assignment", "math.Float64bits", "math.IsNaN", "math.Signbit"},
 		"disk":  {"variadic", "embedding", "promoted method", "copy", "closure"},
 		"page":  {"variadic", "embedding of an interface", "promoted method", "call through an interface", "map"},
+		"meta":  {"generic function of another layer", "structs compared", "api.SlotBlank", "api.SlotRecord", "api.SlotForeign", "api.SlotSpoilt"},
 	}
 	for layer, words := range wanted {
 		got := ways(t, layer)
