@@ -55,7 +55,7 @@ func each(t *testing.T, layer string, do func(name string, text []byte, set *tok
 
 // standsOn tells which layers one may call beside api, where its chapter names them.
 func standsOn() map[string][]string {
-	return map[string][]string{"pack": {}, "sums": {}, "tuple": {"pack"}, "disk": {}, "page": {"pack", "sums"}, "meta": {"pack", "sums"}}
+	return map[string][]string{"pack": {}, "sums": {}, "tuple": {"pack"}, "disk": {}, "page": {"pack", "sums"}, "meta": {"pack", "sums"}, "node": {"pack", "sums"}}
 }
 
 func TestImports(t *testing.T) {
@@ -187,16 +187,12 @@ func ways(t *testing.T, layer string) map[string]int {
 						got["range over a pointer to an array"]++
 					}
 				}
+			case *ast.SwitchStmt:
+				if b, ok := under(info, x.Tag).(*types.Basic); ok && b.Kind() == types.Uint8 {
+					got["switch on a byte"]++
+				}
 			case *ast.SelectorExpr:
-				if s := info.Selections[x]; s != nil && s.Kind() == types.MethodVal {
-					ofMethod(s, got)
-				}
-				if of, ok := x.X.(*ast.Ident); ok {
-					got[of.Name+"."+x.Sel.Name]++
-				}
-				if _, generic := info.Instances[x.Sel]; generic {
-					got["generic function of another layer"]++
-				}
+				ofSelection(info, x, got)
 			case *ast.BinaryExpr:
 				_, of := under(info, x.X).(*types.Struct)
 				if of && (x.Op == token.EQL || x.Op == token.NEQ) {
@@ -248,8 +244,30 @@ func ofStruct(info *types.Info, s *ast.StructType, got map[string]int) {
 	}
 }
 
+// ofSelection counts the ways that a name behind another one shows.
+func ofSelection(info *types.Info, x *ast.SelectorExpr, got map[string]int) {
+	if s := info.Selections[x]; s != nil {
+		ofMethod(s, got)
+	}
+	if of, ok := x.X.(*ast.Ident); ok {
+		got[of.Name+"."+x.Sel.Name]++
+	}
+	if _, generic := info.Instances[x.Sel]; generic {
+		got["generic function of another layer"]++
+	}
+	if _, array := under(info, x).(*types.Array); array && info.Types[x].IsType() {
+		got["array of another layer"]++
+	}
+}
+
 // ofMethod counts the ways by which a method comes to be called.
 func ofMethod(s *types.Selection, got map[string]int) {
+	switch s.Kind() {
+	case types.FieldVal:
+		return
+	case types.MethodExpr:
+		got["method expression"]++
+	}
 	if len(s.Index()) > 1 {
 		got["promoted method"]++
 	}
@@ -267,6 +285,7 @@ func TestWays(t *testing.T) {
 		"disk":  {"variadic", "embedding", "promoted method", "copy", "closure"},
 		"page":  {"variadic", "embedding of an interface", "promoted method", "call through an interface", "map"},
 		"meta":  {"generic function of another layer", "structs compared", "api.SlotBlank", "api.SlotRecord", "api.SlotForeign", "api.SlotSpoilt"},
+		"node":  {"closure", "method expression", "generic function of another layer", "switch on a byte", "array of another layer"},
 	}
 	for layer, words := range wanted {
 		got := ways(t, layer)
