@@ -55,7 +55,7 @@ func each(t *testing.T, layer string, do func(name string, text []byte, set *tok
 
 // standsOn tells which layers one may call beside api, where its chapter names them.
 func standsOn() map[string][]string {
-	return map[string][]string{"pack": {}, "sums": {}, "tuple": {"pack"}, "disk": {}, "page": {"pack", "sums"}, "meta": {"pack", "sums"}, "node": {"pack", "sums"}, "graft": {"node"}}
+	return map[string][]string{"pack": {}, "sums": {}, "tuple": {"pack"}, "disk": {}, "page": {"pack", "sums"}, "meta": {"pack", "sums"}, "node": {"pack", "sums"}, "graft": {"node"}, "free": {"pack", "page"}}
 }
 
 func TestImports(t *testing.T) {
@@ -198,6 +198,10 @@ func ways(t *testing.T, layer string) map[string]int {
 				if of && (x.Op == token.EQL || x.Op == token.NEQ) {
 					got["structs compared"]++
 				}
+			case *ast.SliceExpr:
+				if x.Slice3 {
+					got["three-index slice"]++
+				}
 			case *ast.BranchStmt:
 				if x.Label != nil {
 					got["label"]++
@@ -291,6 +295,7 @@ func TestWays(t *testing.T) {
 		"meta":  {"generic function of another layer", "structs compared", "api.SlotBlank", "api.SlotRecord", "api.SlotForeign", "api.SlotSpoilt"},
 		"node":  {"closure", "method expression", "generic function of another layer", "switch on a byte", "array of another layer"},
 		"graft": {"generic function", "closure", "iter.Seq2", "label"},
+		"free":  {"map", "delete", "label", "variadic", "three-index slice"},
 	}
 	for layer, words := range wanted {
 		got := ways(t, layer)
