@@ -55,7 +55,7 @@ func each(t *testing.T, layer string, do func(name string, text []byte, set *tok
 
 // standsOn tells which layers one may call beside api, where its chapter names them.
 func standsOn() map[string][]string {
-	return map[string][]string{"pack": {}, "sums": {}, "tuple": {"pack"}, "disk": {}, "page": {"pack", "sums"}, "meta": {"pack", "sums"}, "node": {"pack", "sums"}, "graft": {"node"}, "free": {"pack", "page"}}
+	return map[string][]string{"pack": {}, "sums": {}, "tuple": {"pack"}, "disk": {}, "page": {"pack", "sums"}, "meta": {"pack", "sums"}, "node": {"pack", "sums"}, "graft": {"node"}, "free": {"pack", "page"}, "trunk": {"page", "node", "graft"}}
 }
 
 func TestImports(t *testing.T) {
@@ -210,11 +210,32 @@ func ways(t *testing.T, layer string) map[string]int {
 				if x.Tok != token.ASSIGN && x.Tok != token.DEFINE {
 					got["operator assignment"]++
 				}
+				if callsItself(x) {
+					got["closure that calls itself"]++
+				}
 			}
 			return true
 		})
 	}
 	return got
+}
+
+// callsItself tells whether an assignment gives a name to a function that calls what has this name.
+func callsItself(x *ast.AssignStmt) bool {
+	name, named := x.Lhs[0].(*ast.Ident)
+	f, closure := x.Rhs[0].(*ast.FuncLit)
+	if !named || !closure {
+		return false
+	}
+	is := false
+	ast.Inspect(f.Body, func(n ast.Node) bool {
+		if c, ok := n.(*ast.CallExpr); ok {
+			called, ok := c.Fun.(*ast.Ident)
+			is = is || ok && called.Name == name.Name
+		}
+		return true
+	})
+	return is
 }
 
 // ofFunction counts the ways that a function's own face shows.
@@ -296,6 +317,7 @@ func TestWays(t *testing.T) {
 		"node":  {"closure", "method expression", "generic function of another layer", "switch on a byte", "array of another layer"},
 		"graft": {"generic function", "closure", "iter.Seq2", "label"},
 		"free":  {"map", "delete", "label", "variadic", "three-index slice"},
+		"trunk": {"embedding of an interface", "call through an interface", "variadic", "iter.Seq2", "closure that calls itself"},
 	}
 	for layer, words := range wanted {
 		got := ways(t, layer)
