@@ -55,7 +55,7 @@ func each(t *testing.T, layer string, do func(name string, text []byte, set *tok
 
 // standsOn tells which layers one may call beside api, where its chapter names them.
 func standsOn() map[string][]string {
-	return map[string][]string{"pack": {}, "sums": {}, "tuple": {"pack"}, "disk": {}, "page": {"pack", "sums"}, "meta": {"pack", "sums"}, "node": {"pack", "sums"}, "graft": {"node"}, "free": {"pack", "page"}, "trunk": {"page", "node", "graft"}}
+	return map[string][]string{"pack": {}, "sums": {}, "tuple": {"pack"}, "disk": {}, "page": {"pack", "sums"}, "meta": {"pack", "sums"}, "node": {"pack", "sums"}, "graft": {"node"}, "free": {"pack", "page"}, "trunk": {"page", "node", "graft"}, "climb": {"node", "graft", "trunk"}}
 }
 
 func TestImports(t *testing.T) {
@@ -227,21 +227,35 @@ func callsItself(x *ast.AssignStmt) bool {
 	if !named || !closure {
 		return false
 	}
+	return calls(f.Body, name.Name)
+}
+
+// calls tells whether a function's body calls what has a name.
+func calls(body *ast.BlockStmt, name string) bool {
 	is := false
-	ast.Inspect(f.Body, func(n ast.Node) bool {
-		if c, ok := n.(*ast.CallExpr); ok {
-			called, ok := c.Fun.(*ast.Ident)
-			is = is || ok && called.Name == name.Name
-		}
+	ast.Inspect(body, func(n ast.Node) bool {
+		c, ok := n.(*ast.CallExpr)
+		is = is || ok && types.ExprString(c.Fun) == name
 		return true
 	})
 	return is
+}
+
+// ownName answers how a function names itself within its body.
+func ownName(f *ast.FuncDecl) string {
+	if f.Recv == nil || len(f.Recv.List[0].Names) == 0 {
+		return f.Name.Name
+	}
+	return f.Recv.List[0].Names[0].Name + "." + f.Name.Name
 }
 
 // ofFunction counts the ways that a function's own face shows.
 func ofFunction(info *types.Info, f *ast.FuncDecl, got map[string]int) {
 	if f.Type.TypeParams != nil {
 		got["generic function"]++
+	}
+	if calls(f.Body, ownName(f)) {
+		got["function that calls itself"]++
 	}
 	for _, p := range f.Type.Params.List {
 		switch p.Type.(type) {
@@ -267,6 +281,7 @@ func ofStruct(info *types.Info, s *ast.StructType, got map[string]int) {
 		switch under(info, f.Type).(type) {
 		case *types.Struct:
 			got["embedding"]++
+			got["embedding of "+types.ExprString(f.Type)]++
 		case *types.Interface:
 			got["embedding of an interface"]++
 		}
@@ -318,6 +333,7 @@ func TestWays(t *testing.T) {
 		"graft": {"generic function", "closure", "iter.Seq2", "label"},
 		"free":  {"map", "delete", "label", "variadic", "three-index slice"},
 		"trunk": {"embedding of an interface", "call through an interface", "variadic", "iter.Seq2", "closure that calls itself"},
+		"climb": {"iter.Seq2", "function that calls itself", "function that is handed in", "closure", "embedding of api.Node"},
 	}
 	for layer, words := range wanted {
 		got := ways(t, layer)
