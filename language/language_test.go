@@ -55,7 +55,7 @@ func each(t *testing.T, layer string, do func(name string, text []byte, set *tok
 
 // standsOn tells which layers one may call beside api, where its chapter names them.
 func standsOn() map[string][]string {
-	return map[string][]string{"pack": {}, "sums": {}, "tuple": {"pack"}, "disk": {}, "page": {"pack", "sums"}, "meta": {"pack", "sums"}, "node": {"pack", "sums"}, "graft": {"node"}, "free": {"pack", "page"}, "trunk": {"page", "node", "graft"}, "climb": {"node", "graft", "trunk"}}
+	return map[string][]string{"pack": {}, "sums": {}, "tuple": {"pack"}, "disk": {}, "page": {"pack", "sums"}, "meta": {"pack", "sums"}, "node": {"pack", "sums"}, "graft": {"node"}, "free": {"pack", "page"}, "trunk": {"page", "node", "graft"}, "climb": {"node", "graft", "trunk"}, "growth": {"node", "graft", "trunk"}}
 }
 
 func TestImports(t *testing.T) {
@@ -323,17 +323,18 @@ func ofMethod(s *types.Selection, got map[string]int) {
 
 func TestWays(t *testing.T) {
 	wanted := map[string][]string{
-		"pack":  {"generic function", "function that is handed in", "variadic"},
-		"sums":  {"variadic", "slice to array", "range over a pointer to an array", "operator assignment", "array that a function makes"},
-		"tuple": {"variadic", "slice to array", "operator assignment", "math.Float64bits", "math.IsNaN", "math.Signbit"},
-		"disk":  {"variadic", "embedding", "promoted method", "copy", "closure"},
-		"page":  {"variadic", "embedding of an interface", "promoted method", "call through an interface", "map"},
-		"meta":  {"generic function of another layer", "structs compared", "api.SlotBlank", "api.SlotRecord", "api.SlotForeign", "api.SlotSpoilt"},
-		"node":  {"closure", "method expression", "generic function of another layer", "switch on a byte", "array of another layer"},
-		"graft": {"generic function", "closure", "iter.Seq2", "label"},
-		"free":  {"map", "delete", "label", "variadic", "three-index slice"},
-		"trunk": {"embedding of an interface", "call through an interface", "variadic", "iter.Seq2", "closure that calls itself"},
-		"climb": {"iter.Seq2", "function that calls itself", "function that is handed in", "closure", "embedding of api.Node"},
+		"pack":   {"generic function", "function that is handed in", "variadic"},
+		"sums":   {"variadic", "slice to array", "range over a pointer to an array", "operator assignment", "array that a function makes"},
+		"tuple":  {"variadic", "slice to array", "operator assignment", "math.Float64bits", "math.IsNaN", "math.Signbit"},
+		"disk":   {"variadic", "embedding", "promoted method", "copy", "closure"},
+		"page":   {"variadic", "embedding of an interface", "promoted method", "call through an interface", "map"},
+		"meta":   {"generic function of another layer", "structs compared", "api.SlotBlank", "api.SlotRecord", "api.SlotForeign", "api.SlotSpoilt"},
+		"node":   {"closure", "method expression", "generic function of another layer", "switch on a byte", "array of another layer"},
+		"graft":  {"generic function", "closure", "iter.Seq2", "label"},
+		"free":   {"map", "delete", "label", "variadic", "three-index slice"},
+		"trunk":  {"embedding of an interface", "call through an interface", "variadic", "iter.Seq2", "closure that calls itself"},
+		"climb":  {"iter.Seq2", "function that calls itself", "function that is handed in", "closure", "embedding of api.Node"},
+		"growth": {"function that calls itself", "function that is handed in", "closure", "map", "delete", "call through an interface"},
 	}
 	for layer, words := range wanted {
 		got := ways(t, layer)
