@@ -55,7 +55,7 @@ func each(t *testing.T, layer string, do func(name string, text []byte, set *tok
 
 // standsOn tells which layers one may call beside api, where its chapter names them.
 func standsOn() map[string][]string {
-	return map[string][]string{"pack": {}, "sums": {}, "tuple": {"pack"}, "disk": {}, "page": {"pack", "sums"}, "meta": {"pack", "sums"}, "node": {"pack", "sums"}, "graft": {"node"}, "free": {"pack", "page"}, "trunk": {"page", "node", "graft"}, "climb": {"node", "graft", "trunk"}, "growth": {"node", "graft", "trunk"}}
+	return map[string][]string{"pack": {}, "sums": {}, "tuple": {"pack"}, "disk": {}, "page": {"pack", "sums"}, "meta": {"pack", "sums"}, "node": {"pack", "sums"}, "graft": {"node"}, "free": {"pack", "page"}, "trunk": {"page", "node", "graft"}, "climb": {"node", "graft", "trunk"}, "growth": {"node", "graft", "trunk"}, "commit": {"disk", "page", "meta", "node", "free", "trunk", "growth"}}
 }
 
 func TestImports(t *testing.T) {
@@ -187,6 +187,10 @@ func ways(t *testing.T, layer string) map[string]int {
 						got["range over a pointer to an array"]++
 					}
 				}
+			case *ast.CompositeLit:
+				if isListOfClosures(info, x) {
+					got["list of closures"]++
+				}
 			case *ast.SwitchStmt:
 				if b, ok := under(info, x.Tag).(*types.Basic); ok && b.Kind() == types.Uint8 {
 					got["switch on a byte"]++
@@ -218,6 +222,17 @@ func ways(t *testing.T, layer string) map[string]int {
 		})
 	}
 	return got
+}
+
+// isListOfClosures tells whether a literal is a list of functions, each of them a literal.
+func isListOfClosures(info *types.Info, x *ast.CompositeLit) bool {
+	list, ok := under(info, x).(*types.Slice)
+	if !ok {
+		return false
+	}
+	_, functions := list.Elem().Underlying().(*types.Signature)
+	other := func(e ast.Expr) bool { _, closure := e.(*ast.FuncLit); return !closure }
+	return functions && len(x.Elts) > 0 && !slices.ContainsFunc(x.Elts, other)
 }
 
 // callsItself tells whether an assignment gives a name to a function that calls what has this name.
@@ -335,6 +350,7 @@ func TestWays(t *testing.T) {
 		"trunk":  {"embedding of an interface", "call through an interface", "variadic", "iter.Seq2", "closure that calls itself"},
 		"climb":  {"iter.Seq2", "function that calls itself", "function that is handed in", "closure", "embedding of api.Node"},
 		"growth": {"function that calls itself", "function that is handed in", "closure", "map", "delete", "call through an interface"},
+		"commit": {"call through an interface", "embedding of an interface", "list of closures", "map"},
 	}
 	for layer, words := range wanted {
 		got := ways(t, layer)
