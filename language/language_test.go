@@ -55,7 +55,7 @@ func each(t *testing.T, layer string, do func(name string, text []byte, set *tok
 
 // standsOn tells which layers one may call beside api, where its chapter names them.
 func standsOn() map[string][]string {
-	return map[string][]string{"pack": {}, "sums": {}, "tuple": {"pack"}, "disk": {}, "page": {"pack", "sums"}, "meta": {"pack", "sums"}, "node": {"pack", "sums"}, "graft": {"node"}, "free": {"pack", "page"}, "trunk": {"page", "node", "graft"}, "climb": {"node", "graft", "trunk"}, "growth": {"node", "graft", "trunk"}, "commit": {"disk", "page", "meta", "node", "free", "trunk", "growth"}}
+	return map[string][]string{"pack": {}, "sums": {}, "tuple": {"pack"}, "disk": {}, "page": {"pack", "sums"}, "meta": {"pack", "sums"}, "node": {"pack", "sums"}, "graft": {"node"}, "free": {"pack", "page"}, "trunk": {"page", "node", "graft"}, "climb": {"node", "graft", "trunk"}, "growth": {"node", "graft", "trunk"}, "commit": {"disk", "page", "meta", "node", "free", "trunk", "growth"}, "store": {"disk", "trunk", "climb", "growth", "commit"}}
 }
 
 func TestImports(t *testing.T) {
@@ -191,6 +191,9 @@ func ways(t *testing.T, layer string) map[string]int {
 				if isListOfClosures(info, x) {
 					got["list of closures"]++
 				}
+				if isMapOfMethodExpressions(info, x) {
+					got["map of method expressions"]++
+				}
 			case *ast.SwitchStmt:
 				if b, ok := under(info, x.Tag).(*types.Basic); ok && b.Kind() == types.Uint8 {
 					got["switch on a byte"]++
@@ -233,6 +236,18 @@ func isListOfClosures(info *types.Info, x *ast.CompositeLit) bool {
 	_, functions := list.Elem().Underlying().(*types.Signature)
 	other := func(e ast.Expr) bool { _, closure := e.(*ast.FuncLit); return !closure }
 	return functions && len(x.Elts) > 0 && !slices.ContainsFunc(x.Elts, other)
+}
+
+// isMapOfMethodExpressions tells whether a literal is a map of functions, each of them a method expression.
+func isMapOfMethodExpressions(info *types.Info, x *ast.CompositeLit) bool {
+	if _, ok := under(info, x).(*types.Map); !ok {
+		return false
+	}
+	other := func(e ast.Expr) bool {
+		of, ok := e.(*ast.KeyValueExpr).Value.(*ast.SelectorExpr)
+		return !ok || info.Selections[of] == nil || info.Selections[of].Kind() != types.MethodExpr
+	}
+	return len(x.Elts) > 0 && !slices.ContainsFunc(x.Elts, other)
 }
 
 // callsItself tells whether an assignment gives a name to a function that calls what has this name.
@@ -287,7 +302,7 @@ func ofFunction(info *types.Info, f *ast.FuncDecl, got map[string]int) {
 	}
 }
 
-// ofStruct counts the types of the layer's own that a struct embeds.
+// ofStruct counts the types of the program's own that a struct embeds, by themselves or by a pointer.
 func ofStruct(info *types.Info, s *ast.StructType, got map[string]int) {
 	for _, f := range s.Fields.List {
 		if len(f.Names) > 0 {
@@ -296,6 +311,8 @@ func ofStruct(info *types.Info, s *ast.StructType, got map[string]int) {
 		switch under(info, f.Type).(type) {
 		case *types.Struct:
 			got["embedding"]++
+			got["embedding of "+types.ExprString(f.Type)]++
+		case *types.Pointer:
 			got["embedding of "+types.ExprString(f.Type)]++
 		case *types.Interface:
 			got["embedding of an interface"]++
@@ -351,6 +368,7 @@ func TestWays(t *testing.T) {
 		"climb":  {"iter.Seq2", "function that calls itself", "function that is handed in", "closure", "embedding of api.Node"},
 		"growth": {"function that calls itself", "function that is handed in", "closure", "map", "delete", "call through an interface"},
 		"commit": {"call through an interface", "embedding of an interface", "list of closures", "map"},
+		"store":  {"embedding of *commit.File", "promoted method", "variadic", "map of method expressions"},
 	}
 	for layer, words := range wanted {
 		got := ways(t, layer)
