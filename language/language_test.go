@@ -19,9 +19,9 @@ import (
 
 const mostLines = 60
 
-// layers are the packages of the program, each below those behind it.
+// layers are the packages of the program, each below those behind it. (Package within is no layer of the document; those that go down a tree share it.)
 func layers() []string {
-	return strings.Fields("api pack sums tuple disk page meta node graft free trunk climb growth commit store proof span clash audit rings ledger client pins diff follow rows query wire serve hub script play")
+	return strings.Fields("api within pack sums tuple disk page meta node graft free trunk climb growth commit store proof span clash audit rings ledger client pins diff follow rows query wire serve hub script play")
 }
 
 // library are the packages that may be imported beside the program's own.
@@ -55,7 +55,7 @@ func each(t *testing.T, layer string, do func(name string, text []byte, set *tok
 
 // standsOn tells which layers one may call beside api, where its chapter names them.
 func standsOn() map[string][]string {
-	return map[string][]string{"pack": {}, "sums": {}, "tuple": {"pack"}, "disk": {}, "page": {"pack", "sums"}, "meta": {"pack", "sums"}, "node": {"pack", "sums"}, "graft": {"node"}, "free": {"pack", "page"}, "trunk": {"page", "node", "graft"}, "climb": {"node", "graft", "trunk"}, "growth": {"node", "graft", "trunk"}, "commit": {"disk", "page", "meta", "node", "free", "trunk", "growth"}, "store": {"disk", "trunk", "climb", "growth", "commit"}}
+	return map[string][]string{"within": {}, "pack": {}, "sums": {}, "tuple": {"pack"}, "disk": {}, "page": {"pack", "sums"}, "meta": {"pack", "sums"}, "node": {"pack", "sums"}, "graft": {"node"}, "free": {"pack", "page"}, "trunk": {"within", "page", "node", "graft"}, "climb": {"within", "node", "graft", "trunk"}, "growth": {"node", "graft", "trunk"}, "commit": {"disk", "page", "meta", "node", "free", "trunk", "growth"}, "store": {"disk", "trunk", "climb", "growth", "commit"}, "proof": {"within", "pack", "node", "graft", "trunk"}}
 }
 
 func TestImports(t *testing.T) {
@@ -171,7 +171,14 @@ func ways(t *testing.T, layer string) map[string]int {
 				ofStruct(info, x, got)
 			case *ast.MapType:
 				got["map"]++
+			case *ast.DeferStmt:
+				if f, closure := x.Call.Fun.(*ast.FuncLit); closure && calls(f.Body, "recover") {
+					got["recover in a deferred closure"]++
+				}
 			case *ast.CallExpr:
+				if x.Ellipsis.IsValid() {
+					got["list in the place of variadic things"]++
+				}
 				if f, ok := x.Fun.(*ast.Ident); ok && info.Types[f].IsBuiltin() {
 					got[f.Name]++
 				}
@@ -369,6 +376,7 @@ func TestWays(t *testing.T) {
 		"growth": {"function that calls itself", "function that is handed in", "closure", "map", "delete", "call through an interface"},
 		"commit": {"call through an interface", "embedding of an interface", "list of closures", "map"},
 		"store":  {"embedding of *commit.File", "promoted method", "variadic", "map of method expressions"},
+		"proof":  {"panic", "recover in a deferred closure", "variadic", "list in the place of variadic things"},
 	}
 	for layer, words := range wanted {
 		got := ways(t, layer)

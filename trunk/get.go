@@ -5,26 +5,14 @@ import (
 
 	"heartwood/api"
 	"heartwood/node"
+	"heartwood/within"
 )
-
-// bounds are texts between which a node's keys lie. An empty one is one that is missing: no separator is empty.
-type bounds struct{ lower, upper string }
-
-// below tells whether a text is below the upper bound.
-func (b bounds) below(s string) bool { return b.upper == "" || s < b.upper }
-
-// hold tells whether a node's keys and separators lie between the bounds. A separator is not the lower one itself: there would be no key ahead of it.
-func (b bounds) hold(n api.Node) bool {
-	keyOut := func(p api.Pair) bool { return p.Key < b.lower || !b.below(p.Key) }
-	sepOut := func(s string) bool { return s <= b.lower || !b.below(s) }
-	return !slices.ContainsFunc(n.Pairs, keyOut) && !slices.ContainsFunc(n.Seps, sepOut)
-}
 
 // place is where a node is to be got, and what is known of it ahead of that.
 type place struct {
 	way []int
 	kid api.Kid
-	bounds
+	within.Bounds
 }
 
 // top is the place of the root node.
@@ -38,14 +26,7 @@ type stop struct {
 
 // under is the place of the kid i of a branch.
 func (s stop) under(i int) place {
-	p := place{way: append(slices.Clone(s.way), i), kid: s.node.Kids[i], bounds: s.bounds}
-	if i > 0 {
-		p.lower = s.node.Seps[i-1]
-	}
-	if i < len(s.node.Seps) {
-		p.upper = s.node.Seps[i]
-	}
-	return p
+	return place{way: append(slices.Clone(s.way), i), kid: s.node.Kids[i], Bounds: s.Under(s.node, i)}
 }
 
 // spot is what is told of a stop, in lists of its own, so that who is told may write into it while the stop is needed yet.
@@ -63,7 +44,7 @@ func (t *Tree) get(p place) (stop, api.Errno) {
 		return stop{}, e
 	}
 	sum, e := node.Sum(t.frame, n)
-	if e != api.OK || sum != p.kid.Sum || isLeaf(n) && len(n.Pairs) == 0 || !p.hold(n) {
+	if e != api.OK || sum != p.kid.Sum || isLeaf(n) && len(n.Pairs) == 0 || !p.KeptBy(n) {
 		return stop{}, api.ErrBad
 	}
 	return stop{place: p, node: n}, api.OK

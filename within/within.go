@@ -1,0 +1,32 @@
+// Package within tells between which texts a node of a tree lies. Every layer that goes down a tree asks it.
+package within
+
+import (
+	"slices"
+
+	"heartwood/api"
+)
+
+// Bounds are texts between which a node's keys lie. An empty one is one that is missing: no separator is empty.
+type Bounds struct{ Lower, Upper string }
+
+// Under answers the bounds of the kid i of a branch that has these ones. Of a kid that there is not they are the branch's own.
+func (b Bounds) Under(branch api.Node, i int) Bounds {
+	if i > 0 && i <= len(branch.Seps) {
+		b.Lower = branch.Seps[i-1]
+	}
+	if i >= 0 && i < len(branch.Seps) {
+		b.Upper = branch.Seps[i]
+	}
+	return b
+}
+
+// KeptBy tells whether a node's keys and separators lie between the bounds. A separator is not the lower one itself: there would be no key ahead of it.
+func (b Bounds) KeptBy(n api.Node) bool {
+	keyOut := func(p api.Pair) bool { return p.Key < b.Lower || !b.ahead(p.Key) }
+	sepOut := func(s string) bool { return s <= b.Lower || !b.ahead(s) }
+	return !slices.ContainsFunc(n.Pairs, keyOut) && !slices.ContainsFunc(n.Seps, sepOut)
+}
+
+// ahead tells whether a text is ahead of the upper bound.
+func (b Bounds) ahead(s string) bool { return b.Upper == "" || s < b.Upper }

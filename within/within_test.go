@@ -1,0 +1,79 @@
+package within_test
+
+import (
+	"testing"
+
+	"heartwood/api"
+	"heartwood/within"
+)
+
+func leaf(keys ...string) api.Node {
+	var n api.Node
+	for _, k := range keys {
+		n.Pairs = append(n.Pairs, api.Pair{Key: k})
+	}
+	return n
+}
+
+func branch(seps ...string) api.Node {
+	return api.Node{Seps: seps, Kids: make([]api.Kid, len(seps)+1)}
+}
+
+func TestUnder(t *testing.T) {
+	n := branch("d", "g", "k")
+	for _, c := range []struct {
+		of   within.Bounds
+		kid  int
+		want within.Bounds
+	}{
+		{within.Bounds{}, 0, within.Bounds{Upper: "d"}},
+		{within.Bounds{}, 1, within.Bounds{Lower: "d", Upper: "g"}},
+		{within.Bounds{}, 2, within.Bounds{Lower: "g", Upper: "k"}},
+		{within.Bounds{}, 3, within.Bounds{Lower: "k"}},
+		{within.Bounds{Lower: "b", Upper: "p"}, 0, within.Bounds{Lower: "b", Upper: "d"}},
+		{within.Bounds{Lower: "b", Upper: "p"}, 1, within.Bounds{Lower: "d", Upper: "g"}},
+		{within.Bounds{Lower: "b", Upper: "p"}, 3, within.Bounds{Lower: "k", Upper: "p"}},
+		{within.Bounds{Lower: "b", Upper: "p"}, 4, within.Bounds{Lower: "b", Upper: "p"}},
+		{within.Bounds{Lower: "b", Upper: "p"}, -1, within.Bounds{Lower: "b", Upper: "p"}},
+		{within.Bounds{Lower: "b", Upper: "p"}, -1 << 63, within.Bounds{Lower: "b", Upper: "p"}},
+		{within.Bounds{Lower: "b", Upper: "p"}, 1<<63 - 1, within.Bounds{Lower: "b", Upper: "p"}},
+	} {
+		if got := c.of.Under(n, c.kid); got != c.want {
+			t.Errorf("%v: the kid %d lies within %v", c.of, c.kid, got)
+		}
+	}
+	if got := (within.Bounds{Lower: "b", Upper: "p"}).Under(leaf("c"), 0); got != (within.Bounds{Lower: "b", Upper: "p"}) {
+		t.Errorf("a leaf's kid lies within %v", got)
+	}
+}
+
+func TestKeptBy(t *testing.T) {
+	for _, c := range []struct {
+		of   within.Bounds
+		n    api.Node
+		want bool
+	}{
+		{within.Bounds{}, leaf("a", "z"), true},
+		{within.Bounds{}, branch("a", "z"), true},
+		{within.Bounds{Lower: "c", Upper: "m"}, leaf(), true},
+		{within.Bounds{Lower: "c", Upper: "m"}, leaf("c", "l\xff"), true},
+		{within.Bounds{Lower: "c", Upper: "m"}, leaf("b\xff", "d"), false},
+		{within.Bounds{Lower: "c", Upper: "m"}, leaf("d", "m"), false},
+		{within.Bounds{Lower: "c", Upper: "m"}, leaf("d", "n"), false},
+		{within.Bounds{Lower: "c"}, leaf("c", "z"), true},
+		{within.Bounds{Lower: "c"}, leaf("b"), false},
+		{within.Bounds{Upper: "m"}, leaf("\x00", "l"), true},
+		{within.Bounds{Upper: "m"}, leaf("m"), false},
+		{within.Bounds{Lower: "c", Upper: "m"}, branch("c\x00", "l\xff"), true},
+		{within.Bounds{Lower: "c", Upper: "m"}, branch("c", "d"), false},
+		{within.Bounds{Lower: "c", Upper: "m"}, branch("b", "d"), false},
+		{within.Bounds{Lower: "c", Upper: "m"}, branch("d", "m"), false},
+		{within.Bounds{Lower: "c", Upper: "m"}, branch("d", "n"), false},
+		{within.Bounds{Lower: "c"}, branch("c"), false},
+		{within.Bounds{Upper: "m"}, branch("m"), false},
+	} {
+		if got := c.of.KeptBy(c.n); got != c.want {
+			t.Errorf("%v are kept by %v: %t", c.of, c.n, got)
+		}
+	}
+}
