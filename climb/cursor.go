@@ -5,6 +5,7 @@ import (
 
 	"heartwood/api"
 	"heartwood/graft"
+	"heartwood/reach"
 	"heartwood/trunk"
 )
 
@@ -31,7 +32,7 @@ func (c *Cursor) stands() bool { return c != nil && len(c.way) > 0 }
 // Seek goes to the pair with the least key that is not below a key.
 func (c *Cursor) Seek(key string) api.Errno {
 	e := c.begin(func(r rung) int {
-		if r.isLeaf() {
+		if r.IsLeaf() {
 			at, _ := graft.Find(r.Node, key)
 			return at
 		}
@@ -88,11 +89,11 @@ func (c *Cursor) begin(pick func(rung) int) api.Errno {
 	if isEmpty(c.tree) {
 		return api.OK
 	}
-	return c.down(top(c.tree), pick)
+	return c.down(reach.Top(c.tree.Root()), pick)
 }
 
 // down gets the node of a place, and on down up to a leaf, and lays each, with what pick answers of it, at the end of the way. Behind an error the cursor stands at none.
-func (c *Cursor) down(p place, pick func(rung) int) api.Errno {
+func (c *Cursor) down(p reach.Place, pick func(rung) int) api.Errno {
 	for {
 		r, e := get(c.tree, p)
 		if e != api.OK {
@@ -101,10 +102,10 @@ func (c *Cursor) down(p place, pick func(rung) int) api.Errno {
 		}
 		r.at = pick(r)
 		c.way = append(c.way, r)
-		if r.isLeaf() {
+		if r.IsLeaf() {
 			return api.OK
 		}
-		p = r.under(r.at)
+		p = r.Below(r.at)
 	}
 }
 
@@ -129,10 +130,10 @@ func (c *Cursor) on(d direction) api.Errno {
 			continue
 		}
 		c.way = append(slices.Clone(way[:depth]), r)
-		if r.isLeaf() {
+		if r.IsLeaf() {
 			return api.OK
 		}
-		return c.down(r.under(r.at), d.firstOf)
+		return c.down(r.Below(r.at), d.firstOf)
 	}
 	return api.OK
 }

@@ -19,9 +19,9 @@ import (
 
 const mostLines = 60
 
-// layers are the packages of the program, each below those behind it. (Package within is no layer of the document; those that go down a tree share it.)
+// layers are the packages of the program, each below those behind it. (Packages within and reach are no layers of the document; those that go down a tree share them.)
 func layers() []string {
-	return strings.Fields("api within pack sums tuple disk page meta node graft free trunk climb growth commit store proof span clash audit rings ledger client pins diff follow rows query wire serve hub script play")
+	return strings.Fields("api within pack sums tuple disk page meta node reach graft free trunk climb growth commit store proof span clash audit rings ledger client pins diff follow rows query wire serve hub script play")
 }
 
 // library are the packages that may be imported beside the program's own.
@@ -55,7 +55,7 @@ func each(t *testing.T, layer string, do func(name string, text []byte, set *tok
 
 // standsOn tells which layers one may call beside api, where its chapter names them.
 func standsOn() map[string][]string {
-	return map[string][]string{"within": {}, "pack": {}, "sums": {}, "tuple": {"pack"}, "disk": {}, "page": {"pack", "sums"}, "meta": {"pack", "sums"}, "node": {"pack", "sums"}, "graft": {"node"}, "free": {"pack", "page"}, "trunk": {"within", "page", "node", "graft"}, "climb": {"within", "node", "graft", "trunk"}, "growth": {"node", "graft", "trunk"}, "commit": {"disk", "page", "meta", "node", "free", "trunk", "growth"}, "store": {"disk", "trunk", "climb", "growth", "commit"}, "proof": {"within", "pack", "node", "graft", "trunk"}}
+	return map[string][]string{"within": {}, "pack": {}, "sums": {}, "tuple": {"pack"}, "disk": {}, "page": {"pack", "sums"}, "meta": {"pack", "sums"}, "node": {"pack", "sums"}, "reach": {"within", "sums", "node"}, "graft": {"node"}, "free": {"pack", "page"}, "trunk": {"reach", "page", "node", "graft"}, "climb": {"within", "reach", "node", "graft", "trunk"}, "growth": {"node", "graft", "trunk"}, "commit": {"disk", "page", "meta", "node", "free", "trunk", "growth"}, "store": {"disk", "trunk", "climb", "growth", "commit"}, "proof": {"reach", "pack", "node", "graft", "trunk"}, "span": {"within", "reach", "pack", "node", "trunk"}}
 }
 
 func TestImports(t *testing.T) {
@@ -182,6 +182,9 @@ func ways(t *testing.T, layer string) map[string]int {
 				if f, ok := x.Fun.(*ast.Ident); ok && info.Types[f].IsBuiltin() {
 					got[f.Name]++
 				}
+				if isPanicOfOwn(info, layer, x) {
+					got["panic of a type of its own"]++
+				}
 				_, array := under(info, x.Fun).(*types.Array)
 				if array && info.Types[x.Fun].IsType() && len(x.Args) == 1 {
 					if _, slice := under(info, x.Args[0]).(*types.Slice); slice {
@@ -232,6 +235,15 @@ func ways(t *testing.T, layer string) map[string]int {
 		})
 	}
 	return got
+}
+
+// isPanicOfOwn tells whether a call gives up by a panic with a type that the layer made for it.
+func isPanicOfOwn(info *types.Info, layer string, x *ast.CallExpr) bool {
+	if types.ExprString(x.Fun) != "panic" {
+		return false
+	}
+	of, named := info.Types[x.Args[0]].Type.(*types.Named)
+	return named && of.Obj().Pkg() != nil && of.Obj().Pkg().Path() == "heartwood/"+layer
 }
 
 // isListOfClosures tells whether a literal is a list of functions, each of them a literal.
@@ -372,10 +384,11 @@ func TestWays(t *testing.T) {
 		"graft":  {"generic function", "closure", "iter.Seq2", "label"},
 		"free":   {"map", "delete", "label", "variadic", "three-index slice"},
 		"trunk":  {"embedding of an interface", "call through an interface", "variadic", "iter.Seq2", "closure that calls itself"},
-		"climb":  {"iter.Seq2", "function that calls itself", "function that is handed in", "closure", "embedding of api.Node"},
+		"climb":  {"iter.Seq2", "function that calls itself", "function that is handed in", "closure", "embedding of reach.Stop"},
 		"growth": {"function that calls itself", "function that is handed in", "closure", "map", "delete", "call through an interface"},
 		"commit": {"call through an interface", "embedding of an interface", "list of closures", "map"},
 		"store":  {"embedding of *commit.File", "promoted method", "variadic", "map of method expressions"},
+		"span":   {"function that calls itself", "panic of a type of its own", "recover in a deferred closure", "closure"},
 		"proof":  {"panic", "recover in a deferred closure", "variadic", "list in the place of variadic things"},
 	}
 	for layer, words := range wanted {

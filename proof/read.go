@@ -5,29 +5,14 @@ import (
 	"heartwood/graft"
 	"heartwood/node"
 	"heartwood/pack"
-	"heartwood/within"
+	"heartwood/reach"
 )
 
-// place is where a node is to stand, and what is known of it ahead of reading it.
-type place struct {
-	sum api.Digest
-	within.Bounds
-}
-
-// stage is a node on the way, with its plain form and its place, and the kid that the way goes on to. Of a leaf this says nothing.
+// stage is a node on the way, with its plain form, and the kid that the way goes on to. Of a leaf this says nothing.
 type stage struct {
-	api.Node
-	place
+	reach.Stop
 	form string
 	kid  int
-}
-
-// isLeaf tells a leaf from a branch.
-func (s stage) isLeaf() bool { return len(s.Kids) == 0 }
-
-// next is the place of the node that the way goes on to.
-func (s stage) next() place {
-	return place{sum: s.Kids[s.kid].Sum, Bounds: s.Under(s.Node, s.kid)}
 }
 
 // answer is what a leaf says of a key.
@@ -49,7 +34,7 @@ func read(f api.Frame, root api.Digest, key, proof string) (way []stage, e api.E
 			way, e = nil, api.ErrProof
 		}
 	}()
-	return reader{f, key}.way(place{sum: root}, proof), api.OK
+	return reader{f, key}.way(reach.Top(api.Root{Sum: root}), proof), api.OK
 }
 
 // reader reads proofs of a key. Its methods give up by a panic, which is caught where they were begun.
@@ -59,30 +44,28 @@ type reader struct {
 }
 
 // way reads the way from a place down to a leaf.
-func (r reader) way(p place, proof string) []stage {
+func (r reader) way(p reach.Place, proof string) []stage {
 	forms, err := pack.Split(proof)
 	need(err == nil && len(forms) > 0 && len(forms) <= api.MaxDepth)
 	var way []stage
 	for i, form := range forms {
 		last := i == len(forms)-1
 		s := r.stage(p, form)
-		need(s.isLeaf() == last)
+		need(s.IsLeaf() == last)
 		need(!last || i == 0 || len(s.Pairs) > 0)
 		way = append(way, s)
 		if !last {
-			p = s.next()
+			p = s.Below(s.kid)
 		}
 	}
 	return way
 }
 
 // stage reads the node of a place.
-func (r reader) stage(p place, form string) stage {
+func (r reader) stage(p reach.Place, form string) stage {
 	n, e := node.Read(r.frame, form)
-	need(e == api.OK)
-	sum, e := node.Sum(r.frame, n)
-	need(e == api.OK && sum == p.sum && p.KeptBy(n))
-	return stage{Node: n, place: p, form: form, kid: graft.Way(n, r.key)}
+	need(e == api.OK && p.Fits(r.frame, n))
+	return stage{Stop: reach.Stop{Node: n, Place: p}, form: form, kid: graft.Way(n, r.key)}
 }
 
 // need gives up, unless something holds without which a proof proves nothing.

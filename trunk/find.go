@@ -18,12 +18,12 @@ func (t *Tree) At(way ...int) (api.Node, api.Errno) {
 		if e != api.OK {
 			break
 		}
-		if i < 0 || i >= len(s.node.Kids) {
+		if i < 0 || i >= len(s.Kids) {
 			return api.Node{}, api.ErrWay
 		}
 		s, e = t.get(s.under(i))
 	}
-	return s.node, e
+	return s.Node, e
 }
 
 // emptyAt answers the node of a way in the empty tree, which has none: in the root's place stands the empty leaf.
@@ -64,7 +64,7 @@ func (t *Tree) Get(key string) (string, bool, api.Errno) {
 	if e != api.OK || len(l) == 0 {
 		return "", false, e
 	}
-	leaf := l[len(l)-1].node
+	leaf := l[len(l)-1].Node
 	at, is := graft.Find(leaf, key)
 	if !is {
 		return "", false, api.OK
@@ -78,7 +78,7 @@ func (t *Tree) Floor(key string) (api.Pair, bool, api.Errno) {
 	if e != api.OK || len(l) == 0 {
 		return api.Pair{}, false, e
 	}
-	leaf := l[len(l)-1].node
+	leaf := l[len(l)-1].Node
 	at, is := graft.Find(leaf, key)
 	if is {
 		return leaf.Pairs[at], true, api.OK
@@ -100,7 +100,7 @@ func (t *Tree) Ceil(key string) (api.Pair, bool, api.Errno) {
 	if e != api.OK || len(l) == 0 {
 		return api.Pair{}, false, e
 	}
-	leaf := l[len(l)-1].node
+	leaf := l[len(l)-1].Node
 	at, _ := graft.Find(leaf, key)
 	if at < len(leaf.Pairs) {
 		return leaf.Pairs[at], true, api.OK
@@ -117,14 +117,14 @@ func (t *Tree) Ceil(key string) (api.Pair, bool, api.Errno) {
 func (t *Tree) beside(l []stop, step int, pick func(branch api.Node) int) (api.Node, bool, api.Errno) {
 	for depth := len(l) - 1; depth > 0; depth-- {
 		branch, i := l[depth-1], l[depth].way[depth-1]+step
-		if i < 0 || i >= len(branch.node.Kids) {
+		if i < 0 || i >= len(branch.Kids) {
 			continue
 		}
 		to, e := t.down(branch.under(i), pick)
 		if e != api.OK {
 			return api.Node{}, false, e
 		}
-		return to[len(to)-1].node, true, api.OK
+		return to[len(to)-1].Node, true, api.OK
 	}
 	return api.Node{}, false, api.OK
 }

@@ -23,7 +23,7 @@ func (t *Tree) Walk() iter.Seq2[api.Spot, api.Errno] {
 			if !yield(s.spot(), api.OK) {
 				return false
 			}
-			for i := range s.node.Kids {
+			for i := range s.Kids {
 				if !through(s.under(i)) {
 					return false
 				}

@@ -77,3 +77,51 @@ func TestKeptBy(t *testing.T) {
 		}
 	}
 }
+
+func TestHas(t *testing.T) {
+	for _, c := range []struct {
+		of        within.Bounds
+		has, hasn []string
+	}{
+		{within.Bounds{}, []string{"", "\x00", "a", "\xff\xff"}, nil},
+		{within.Bounds{Lower: "c"}, []string{"c", "c\x00", "\xff"}, []string{"", "b\xff"}},
+		{within.Bounds{Upper: "m"}, []string{"", "\x00", "l\xff"}, []string{"m", "m\x00", "z"}},
+		{within.Bounds{Lower: "c", Upper: "m"}, []string{"c", "l\xff"}, []string{"", "b\xff", "m", "z"}},
+		{within.Bounds{Lower: "c", Upper: "c"}, nil, []string{"", "b", "c", "d"}},
+		{within.Bounds{Lower: "m", Upper: "c"}, nil, []string{"", "b", "c", "d", "m", "z"}},
+	} {
+		for _, key := range c.has {
+			if !c.of.Has(key) {
+				t.Errorf("%q: %q does not lie there", c.of, key)
+			}
+		}
+		for _, key := range c.hasn {
+			if c.of.Has(key) {
+				t.Errorf("%q: %q lies there", c.of, key)
+			}
+		}
+	}
+}
+
+func TestMeets(t *testing.T) {
+	for _, c := range []struct {
+		a, b within.Bounds
+		want bool
+	}{
+		{within.Bounds{}, within.Bounds{}, true},
+		{within.Bounds{}, within.Bounds{Lower: "c", Upper: "m"}, true},
+		{within.Bounds{Upper: "c"}, within.Bounds{Lower: "c"}, false},
+		{within.Bounds{Upper: "c\x00"}, within.Bounds{Lower: "c"}, true},
+		{within.Bounds{Lower: "a", Upper: "c"}, within.Bounds{Lower: "b", Upper: "d"}, true},
+		{within.Bounds{Lower: "a", Upper: "b"}, within.Bounds{Lower: "b", Upper: "d"}, false},
+		{within.Bounds{Lower: "a", Upper: "z"}, within.Bounds{Lower: "b", Upper: "d"}, true},
+		{within.Bounds{Lower: "a", Upper: "b"}, within.Bounds{Lower: "x", Upper: "y"}, false},
+		// Where no key can lie there, whether it meets others is told by the ends alone.
+		{within.Bounds{Lower: "e", Upper: "d"}, within.Bounds{Lower: "c", Upper: "f"}, true},
+		{within.Bounds{Lower: "z", Upper: "a"}, within.Bounds{Lower: "c", Upper: "f"}, false},
+	} {
+		if c.a.Meets(c.b) != c.want || c.b.Meets(c.a) != c.want {
+			t.Errorf("%q and %q meet: %t, %t", c.a, c.b, c.a.Meets(c.b), c.b.Meets(c.a))
+		}
+	}
+}
