@@ -55,7 +55,7 @@ func each(t *testing.T, layer string, do func(name string, text []byte, set *tok
 
 // standsOn tells which layers one may call beside api, where its chapter names them.
 func standsOn() map[string][]string {
-	return map[string][]string{"within": {}, "pack": {}, "sums": {}, "tuple": {"pack"}, "disk": {}, "page": {"pack", "sums"}, "meta": {"pack", "sums"}, "node": {"pack", "sums"}, "reach": {"within", "sums", "node"}, "graft": {"node"}, "free": {"pack", "page"}, "trunk": {"reach", "page", "node", "graft"}, "climb": {"within", "reach", "node", "graft", "trunk"}, "growth": {"node", "graft", "trunk"}, "commit": {"disk", "page", "meta", "node", "free", "trunk", "growth"}, "store": {"disk", "trunk", "climb", "growth", "commit"}, "proof": {"reach", "pack", "node", "graft", "trunk"}, "span": {"within", "reach", "pack", "node", "trunk"}}
+	return map[string][]string{"within": {}, "pack": {}, "sums": {}, "tuple": {"pack"}, "disk": {}, "page": {"pack", "sums"}, "meta": {"pack", "sums"}, "node": {"pack", "sums"}, "reach": {"within", "sums", "node"}, "graft": {"node"}, "free": {"pack", "page"}, "trunk": {"reach", "page", "node", "graft"}, "climb": {"within", "reach", "node", "graft", "trunk"}, "growth": {"node", "graft", "trunk"}, "commit": {"disk", "page", "meta", "node", "free", "trunk", "growth"}, "store": {"disk", "trunk", "climb", "growth", "commit"}, "proof": {"reach", "pack", "node", "graft", "trunk"}, "span": {"within", "reach", "pack", "node", "trunk"}, "clash": {"within", "reach", "sums", "node", "trunk", "proof", "span"}}
 }
 
 func TestImports(t *testing.T) {
@@ -307,18 +307,59 @@ func ofFunction(info *types.Info, f *ast.FuncDecl, got map[string]int) {
 		got["function that calls itself"]++
 	}
 	for _, p := range f.Type.Params.List {
-		switch p.Type.(type) {
-		case *ast.Ellipsis:
+		if _, more := p.Type.(*ast.Ellipsis); more {
 			got["variadic"]++
-		case *ast.FuncType:
+		}
+		if _, function := under(info, p.Type).(*types.Signature); function {
 			got["function that is handed in"]++
 		}
+	}
+	if setsResult(f) {
+		got["named result that a deferred closure sets"]++
 	}
 	if r := f.Type.Results; r != nil && len(r.List) == 1 && len(f.Type.Params.List) == 0 {
 		if _, array := under(info, r.List[0].Type).(*types.Array); array {
 			got["array that a function makes"]++
 		}
 	}
+}
+
+// setsResult tells whether a function has a deferred function literal that sets one of its named results.
+func setsResult(f *ast.FuncDecl) bool {
+	var names []string
+	if f.Type.Results != nil {
+		for _, r := range f.Type.Results.List {
+			for _, name := range r.Names {
+				names = append(names, name.Name)
+			}
+		}
+	}
+	is := false
+	ast.Inspect(f.Body, func(n ast.Node) bool {
+		d, deferred := n.(*ast.DeferStmt)
+		if deferred {
+			is = is || slices.ContainsFunc(names, func(name string) bool { return sets(d.Call.Fun, name) })
+		}
+		return true
+	})
+	return is
+}
+
+// sets tells whether a function literal gives something else to what has a name.
+func sets(e ast.Expr, name string) bool {
+	f, closure := e.(*ast.FuncLit)
+	if !closure {
+		return false
+	}
+	is := false
+	ast.Inspect(f.Body, func(n ast.Node) bool {
+		x, set := n.(*ast.AssignStmt)
+		if set && x.Tok == token.ASSIGN {
+			is = is || slices.ContainsFunc(x.Lhs, func(e ast.Expr) bool { return types.ExprString(e) == name })
+		}
+		return true
+	})
+	return is
 }
 
 // ofStruct counts the types of the program's own that a struct embeds, by themselves or by a pointer.
@@ -389,6 +430,7 @@ func TestWays(t *testing.T) {
 		"commit": {"call through an interface", "embedding of an interface", "list of closures", "map"},
 		"store":  {"embedding of *commit.File", "promoted method", "variadic", "map of method expressions"},
 		"span":   {"function that calls itself", "panic of a type of its own", "recover in a deferred closure", "closure"},
+		"clash":  {"function that is handed in", "function that calls itself", "named result that a deferred closure sets", "recover in a deferred closure", "panic of a type of its own"},
 		"proof":  {"panic", "recover in a deferred closure", "variadic", "list in the place of variadic things"},
 	}
 	for layer, words := range wanted {
